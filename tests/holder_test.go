@@ -525,25 +525,30 @@ func TestHoldingsThrown(t *testing.T) {
 	}
 }
 
-// The five functions leave the Keys, and what lies behind them, as they were.
-func TestHoldingLeavesItsArgument(t *testing.T) {
-	leaves := func(h impl.Holding) {
-		sameArgs(t, "Holding", [][]int64{h.Keys}, func(in [][]int64) {
-			h.Keys = in[0]
-			impl.HoldingOk(h)
-			spoil(impl.NewHolding().Keys)
-			for who := int64(-2); who <= 6; who++ {
-				impl.Registered(h, who)
-				impl.Holds(h, who)
-				impl.May(h, who, false)
-				impl.May(h, who, true)
-			}
-		})
-	}
+// leavesHoldings runs the call on holdings, right and wrong, and wants their Keys, and what lies behind them, as they were.
+func leavesHoldings(t *testing.T, call func(h impl.Holding)) {
+	t.Helper()
 	for _, b := range breaches() {
-		leaves(b.right)
-		leaves(b.broken)
+		for _, h := range []impl.Holding{b.right, b.broken} {
+			sameArgs(t, "Holding", [][]int64{h.Keys}, func(in [][]int64) {
+				h.Keys = in[0]
+				call(h)
+			})
+		}
 	}
+}
+
+func TestHoldingLeavesItsArgument(t *testing.T) {
+	leavesHoldings(t, func(h impl.Holding) {
+		impl.HoldingOk(h)
+		spoil(impl.NewHolding().Keys)
+		for who := int64(-2); who <= 6; who++ {
+			impl.Registered(h, who)
+			impl.Holds(h, who)
+			impl.May(h, who, false)
+			impl.May(h, who, true)
+		}
+	})
 }
 
 // The spare room behind the Keys tells nothing: three with a fourth behind them are three.

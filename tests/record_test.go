@@ -5,6 +5,7 @@ import (
 	"math"
 	"math/rand"
 	"regexp"
+	"slices"
 	"strconv"
 	"strings"
 	"testing"
@@ -14,18 +15,25 @@ import (
 
 var recordForm = regexp.MustCompile(`\Arecord (0|[1-9][0-9]{0,8}) ([1-3]) (0|[1-9][0-9]{0,8}) (0|[1-9][0-9]{0,8})\z`)
 
+// numbersByForm tells the numbers that the form has in brackets; nothing where the text is not of it.
+func numbersByForm(form *regexp.Regexp, s string) []int64 {
+	parts := form.FindStringSubmatch(s)
+	if parts == nil {
+		return nil
+	}
+	numbers := []int64{}
+	for _, part := range parts[1:] {
+		n, _ := strconv.ParseInt(part, 10, 64)
+		numbers = append(numbers, n)
+	}
+	return numbers
+}
+
 // readRecordByHand reads by a form, where the program reads word by word.
 func readRecordByHand(s string) (impl.Record, bool) {
-	parts := recordForm.FindStringSubmatch(s)
-	if parts == nil {
+	numbers := numbersByForm(recordForm, s)
+	if numbers == nil || slices.Max(numbers) > 100000 {
 		return impl.Record{}, false
-	}
-	numbers := [4]int64{}
-	for k := range numbers {
-		numbers[k], _ = strconv.ParseInt(parts[k+1], 10, 64)
-		if numbers[k] > 100000 {
-			return impl.Record{}, false
-		}
 	}
 	return impl.Record{Epoch: numbers[0], State: numbers[1], Tried: numbers[2], Seen: numbers[3]}, true
 }
