@@ -354,9 +354,11 @@ func disksToLeaveAlone() []impl.Disk {
 	return disks
 }
 
-func TestDiskLeavesItsArgument(t *testing.T) {
+// leavesDisks wants each of the calls to write into nothing that it was given, and to hand out none of it.
+func leavesDisks(t *testing.T, calls []diskCall) {
+	t.Helper()
 	for _, d := range disksToLeaveAlone() {
-		for _, c := range diskCalls() {
+		for _, c := range calls {
 			sameArgs(t, c.name, [][]int64{d.Kept, d.Now}, func(in [][]int64) {
 				got := c.call(impl.Disk{Kept: in[0], Now: in[1]})
 				spoil(got.Kept)
@@ -366,9 +368,11 @@ func TestDiskLeavesItsArgument(t *testing.T) {
 	}
 }
 
-func TestKeptAndNowShareNothing(t *testing.T) {
+// keptApart wants Kept and Now of each answer to share no memory.
+func keptApart(t *testing.T, calls []diskCall) {
+	t.Helper()
 	for _, d := range disksToLeaveAlone() {
-		for _, c := range diskCalls() {
+		for _, c := range calls {
 			got := c.call(d)
 			want := cloneDisk(got)
 			spoil(got.Now)
@@ -384,27 +388,44 @@ func TestKeptAndNowShareNothing(t *testing.T) {
 	}
 }
 
-// A disk whose lists lie over each other in memory is not to be told from one whose lists do not.
-func TestDiskOfListsThatShare(t *testing.T) {
+// eachOverlap goes through disks whose lists lie over each other in memory, each with one alike whose lists do not.
+func eachOverlap(see func(over, apart impl.Disk)) {
 	for n := 1; n <= 8; n++ {
 		for from := range n + 1 {
 			whole := ramp(2*n, 5)
 			over := impl.Disk{Kept: whole[from : from+n], Now: whole[:n]}
-			apart := cloneDisk(over)
-			for _, c := range diskCalls() {
-				got, want := c.call(over), c.call(apart)
-				if !sameDisk(got, want) {
-					t.Errorf("%s(%v) = %v, not %v", c.name, apart, got, want)
-				}
-				spoil(got.Kept)
-				spoil(got.Now)
-				if !sameDisk(over, apart) {
-					t.Fatalf("%s hands out its argument", c.name)
-				}
-			}
-			if impl.Loose(over) != impl.Loose(apart) || !impl.DiskOk(over) {
-				t.Errorf("Loose(%v) = %d", apart, impl.Loose(over))
-			}
+			see(over, cloneDisk(over))
 		}
 	}
+}
+
+// blindToOverlap wants a disk whose lists lie over each other not to be told from one whose lists do not.
+func blindToOverlap(t *testing.T, calls []diskCall) {
+	t.Helper()
+	eachOverlap(func(over, apart impl.Disk) {
+		for _, c := range calls {
+			got, want := c.call(over), c.call(apart)
+			if !sameDisk(got, want) {
+				t.Errorf("%s(%v) = %v, not %v", c.name, apart, got, want)
+			}
+			spoil(got.Kept)
+			spoil(got.Now)
+			if !sameDisk(over, apart) {
+				t.Fatalf("%s hands out its argument", c.name)
+			}
+		}
+	})
+}
+
+func TestDiskLeavesItsArgument(t *testing.T) { leavesDisks(t, diskCalls()) }
+
+func TestKeptAndNowShareNothing(t *testing.T) { keptApart(t, diskCalls()) }
+
+func TestDiskOfListsThatShare(t *testing.T) {
+	blindToOverlap(t, diskCalls())
+	eachOverlap(func(over, apart impl.Disk) {
+		if impl.Loose(over) != impl.Loose(apart) || !impl.DiskOk(over) {
+			t.Errorf("Loose(%v) = %d", apart, impl.Loose(over))
+		}
+	})
 }
