@@ -414,7 +414,7 @@ func TestTornWhereNothingIsNoted(t *testing.T) {
 	}
 }
 
-// A Torn below 0 is refused by the two that may note, whatever would come of them.
+// A Torn below 0 is refused with the two kinds that may note, whatever would come of them.
 func TestTornBelowNoughtInAPair(t *testing.T) {
 	post := letterPost()
 	for _, state := range threeStates {
@@ -430,6 +430,85 @@ func TestTornBelowNoughtInAPair(t *testing.T) {
 					wantPairStays(t, p, hearOf(at, torn))
 				}
 			}
+		}
+	}
+}
+
+// A tornRow is an act that is done with its pair, and what comes of it with nothing torn.
+type tornRow struct {
+	p      impl.Pair
+	a      impl.Act
+	want   impl.Pair
+	answer impl.Answer
+}
+
+// tornRows have an act of each kind to each house; none of them comes to noting, so that nothing can be torn.
+func tornRows(node int64) []tornRow {
+	nodes := [2]impl.Node{}
+	nodes[node], nodes[1-node] = houseOf(node, impl.StOwner, "closed"), houseOf(1-node, impl.StOther, "none")
+	n, first, second := nodes[node], impl.Msg{To: node, Kind: impl.MsReady, Try: 6}, impl.Msg{To: 1 - node, Kind: impl.MsReady, Try: 6}
+	p := withEvents(withPost(pairOf(nodes[:]...), []impl.Msg{first, second}), eventsOf(4))
+	down := editedPair(p, func(p *impl.Pair) { p.Nodes[node] = fallenByHand(n, 0) })
+	bad := impl.Answer{Status: impl.SaBad, Text: "1"}
+	asked := impl.Event{Kind: impl.EvCmd, Who: 1, Bytes: "x", Answer: bad}
+	dropped := edited(n, func(n *impl.Node) { n.Copier = impl.Copier{} })
+	open := edited(n, func(n *impl.Node) { n.Copier.Open = true })
+	risen := edited(fallenByHand(n, 0), func(n *impl.Node) { n.Up = true })
+	return []tornRow{
+		{p, askOf(node, 1, "x"), changed(p, n, nil, asked), bad},
+		{p, tellOf(node, impl.GoCancel, 0), changed(p, dropped, nil), noneAnswer},
+		{p, hearOf(0, 0), changed(withPost(p, []impl.Msg{second}), open, nil), noneAnswer},
+		{p, impl.Act{Kind: impl.AcLose, N: 1}, withPost(p, []impl.Msg{first}), noneAnswer},
+		{p, impl.Act{Kind: impl.AcTwice, N: 1}, withPost(p, []impl.Msg{first, second, second}), noneAnswer},
+		{p, fallOf(node, 3), changed(p, fallenByHand(n, 3), nil, lossEvent(3)), noneAnswer},
+		{down, riseOf(node), changed(down, risen, nil), noneAnswer},
+	}
+}
+
+// A Torn below 0 is out of range in an act of each kind, also of those that tear nothing; from 0 on it changes nothing where nothing is noted.
+func TestTornOfEachKind(t *testing.T) {
+	for node := range int64(2) {
+		for k, row := range tornRows(node) {
+			if row.a.Kind != int64(k+1) {
+				t.Fatalf("row %d has the kind %d", k, row.a.Kind)
+			}
+			for _, torn := range []int64{0, 1, 2, 25, 40000, 40001, 1 << 32, math.MaxInt64} {
+				row.a.Torn = torn
+				wantHappen(t, row.p, row.a, row.want, row.answer, true)
+			}
+			for _, torn := range []int64{-1, -2, -256, -1 << 32, math.MinInt64 + 1, math.MinInt64} {
+				row.a.Torn = torn
+				wantPairStays(t, row.p, row.a)
+				wantHappen(t, impl.Pair{}, row.a, impl.Pair{}, noneAnswer, false)
+			}
+		}
+	}
+}
+
+// Likewise of all acts that are done with some pairs: what a house would tell or send, and what would be refused, has no say.
+func TestTornBelowNoughtOfAllActs(t *testing.T) {
+	done := map[int64]int{}
+	for k, state := range threeStates {
+		p := ahead(pairOf(houseOf(0, state, "none"), houseOf(1, threeStates[(k+1)%3], "none")))
+		for _, up := range eachFlag {
+			if p.Post = letterPost()[:39]; !up {
+				p.Nodes[k%2] = fallenByHand(p.Nodes[k%2], 0)
+			}
+			for _, a := range pairActs() {
+				a.Torn = 0
+				if wantHappenByHand(t, p, a) {
+					done[a.Kind]++
+				}
+				for _, torn := range []int64{-1, math.MinInt64} {
+					a.Torn = torn
+					wantPairStays(t, p, a)
+				}
+			}
+		}
+	}
+	for kind := int64(1); kind <= 7; kind++ {
+		if done[kind] == 0 {
+			t.Errorf("no act of kind %d was done", kind)
 		}
 	}
 }
@@ -451,18 +530,18 @@ func TestActsThatAreNone(t *testing.T) {
 	}
 }
 
-// An act is looked at for no more than its kind tells of.
+// An act is looked at for no more than its kind tells of, but for Torn.
 func TestWhatAnActDoesNotTell(t *testing.T) {
 	p := ahead(pairOf(houseOf(0, impl.StOwner, "none"), fallenByHand(houseOf(1, impl.StOther, "none"), 0)))
 	long := strings.Repeat("x", 21)
 	for _, a := range []struct{ plain, more impl.Act }{
-		{askOf(0, 1, bytesOf(readOf(0))), impl.Act{Kind: impl.AcAsk, N: -9, Who: 1, Bytes: bytesOf(readOf(0)), Torn: -9}},
+		{askOf(0, 1, bytesOf(readOf(0))), impl.Act{Kind: impl.AcAsk, N: -9, Who: 1, Bytes: bytesOf(readOf(0)), Torn: 9}},
 		{tellOf(0, impl.GoMove, 0), impl.Act{Kind: impl.AcTold, N: impl.GoMove, Who: -9, Bytes: long}},
 		{hearOf(1, 0), impl.Act{Kind: impl.AcHear, Node: -9, N: 1, Who: -9, Bytes: long}},
-		{impl.Act{Kind: impl.AcLose, N: 1}, impl.Act{Kind: impl.AcLose, Node: 2, N: 1, Who: 4, Bytes: long, Torn: -1}},
-		{impl.Act{Kind: impl.AcTwice, N: 1}, impl.Act{Kind: impl.AcTwice, Node: 2, N: 1, Who: 4, Bytes: long, Torn: -1}},
-		{fallOf(0, 3), impl.Act{Kind: impl.AcFall, N: 3, Who: 4, Bytes: long, Torn: -1}},
-		{riseOf(1), impl.Act{Kind: impl.AcRise, Node: 1, N: -9, Who: 4, Bytes: long, Torn: -1}},
+		{impl.Act{Kind: impl.AcLose, N: 1}, impl.Act{Kind: impl.AcLose, Node: 2, N: 1, Who: 4, Bytes: long, Torn: 1}},
+		{impl.Act{Kind: impl.AcTwice, N: 1}, impl.Act{Kind: impl.AcTwice, Node: 2, N: 1, Who: 4, Bytes: long, Torn: 1}},
+		{fallOf(0, 3), impl.Act{Kind: impl.AcFall, N: 3, Who: 4, Bytes: long, Torn: 1}},
+		{riseOf(1), impl.Act{Kind: impl.AcRise, Node: 1, N: -9, Who: 4, Bytes: long, Torn: 1}},
 	} {
 		want, answer, done := impl.Happen(p, a.plain)
 		if !done {
@@ -627,8 +706,9 @@ func pairActs() []impl.Act {
 		for _, set := range []int64{-1, 0, 1, 255, 256} {
 			list = append(list, fallOf(node, set))
 		}
-		list = append(list, riseOf(node))
+		list = append(list, riseOf(node), impl.Act{Kind: impl.AcAsk, Node: node, Who: 1, Bytes: "y", Torn: -1}, impl.Act{Kind: impl.AcFall, Node: node, Torn: -1}, impl.Act{Kind: impl.AcRise, Node: node, Torn: -1})
 	}
+	list = append(list, impl.Act{Kind: impl.AcLose, Torn: -1}, impl.Act{Kind: impl.AcTwice, Torn: -1})
 	for at := int64(-1); at <= 40; at++ {
 		list = append(list, hearOf(at, 0), hearOf(at, 3))
 		if at%8 == 0 {
@@ -722,6 +802,8 @@ func thrownActOf(source *rand.Rand, p impl.Pair) impl.Act {
 		a.Node = thrownNear(source, 0, 1)
 	case 2:
 		a.Kind = thrownNear(source, 1, 7)
+	case 3:
+		a.Torn = -1 - source.Int63n(3)
 	}
 	return a
 }

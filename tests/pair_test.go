@@ -167,11 +167,11 @@ func (h *handPair) actsOnPost(a impl.Act) bool {
 		return true
 	}
 	h.p.Post = left
-	if a.Kind == 3 && a.Torn >= 0 {
+	if a.Kind == 3 {
 		after, msgs, _ := heardByHand(h.p.Nodes[m.To], m, a.Torn)
 		h.does(after, msgs)
 	}
-	return a.Kind == 4 || a.Torn >= 0
+	return true
 }
 
 func happenByHand(p impl.Pair, a impl.Act) (impl.Pair, impl.Answer, bool) {
@@ -180,6 +180,8 @@ func happenByHand(p impl.Pair, a impl.Act) (impl.Pair, impl.Answer, bool) {
 	}
 	h, done := handPair{p: clonePair(p), answer: noneAnswer}, false
 	switch {
+	case a.Torn < 0:
+		// It is out of range whatever the kind.
 	case between(a.Kind, 3, 5):
 		done = h.actsOnPost(a)
 	case between(a.Kind, 1, 7) && between(a.Node, 0, 1):
@@ -231,7 +233,7 @@ func wantOwners(t *testing.T, p impl.Pair, want int64) {
 
 // eachKindOfAct are acts of which each would be done with some pair, and some that never are.
 func eachKindOfAct() []impl.Act {
-	list := []impl.Act{{}, {Kind: 8}, {Kind: -1}}
+	list := []impl.Act{{}, {Kind: 8}, {Kind: -1}, {Kind: impl.AcFall, Torn: -1}, {Kind: impl.AcLose, Torn: -1}}
 	for node := range int64(2) {
 		list = append(list,
 			impl.Act{Kind: impl.AcAsk, Node: node, Who: 1, Bytes: bytesOf(writeOf(0, 9))},
