@@ -661,6 +661,7 @@ func thrownCopier(source *rand.Rand) impl.Copier {
 }
 
 func TestCopiersThrown(t *testing.T) {
+	t.Parallel()
 	source := rand.New(rand.NewSource(16))
 	right, wrong, clean := 0, 0, 0
 	for range 60000 {

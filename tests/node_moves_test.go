@@ -584,6 +584,7 @@ func TestWhatFallsAsItIsNoted(t *testing.T) {
 
 // Where there is no room in the Log all of it is lost, whatever is torn; where there is just room it is Noted.
 func TestWhatThereIsNoRoomFor(t *testing.T) {
+	t.Parallel()
 	for _, one := range notings() {
 		frame := framedByHand(showRecordByHand(one.r))
 		for size := 40000 - len(frame) - 2; size <= 40000; size++ {
@@ -656,6 +657,7 @@ func TestALogUntilItIsFull(t *testing.T) {
 
 // Each house with each kind and each letter about its Try, its Epoch and its Turns, as told by hand.
 func TestEachNodeByHand(t *testing.T) {
+	t.Parallel()
 	done, stays := map[int64]int{}, map[int64]int{}
 	for k, n := range rightNodes() {
 		for kind := int64(0); kind <= 7; kind++ {
@@ -733,6 +735,7 @@ func thrownTorn(source *rand.Rand) int64 {
 }
 
 func TestNodesThrown(t *testing.T) {
+	t.Parallel()
 	source := rand.New(rand.NewSource(21))
 	right, wrong, told, heard := 0, 0, 0, 0
 	for range 60000 {

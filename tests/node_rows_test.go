@@ -221,6 +221,7 @@ func (f *ferry) step(t *testing.T, source *rand.Rand) {
 
 // Promise 15, over long rows of all that can come, with the letters that were sent carried between two houses, also late and twice, and with others that were never sent.
 func TestAHouseStaysRightWhateverComes(t *testing.T) {
+	t.Parallel()
 	source := rand.New(rand.NewSource(22))
 	for blocks := int64(1); blocks <= 8; blocks++ {
 		for _, forged := range eachFlag {

@@ -720,6 +720,7 @@ func pairActs() []impl.Act {
 
 // Each house of each State beside others, with each act, as told by hand.
 func TestEachPairByHand(t *testing.T) {
+	t.Parallel()
 	post, acts := letterPost(), pairActs()
 	done := map[int64]int{}
 	for _, blocks := range []int{1, 3} {
@@ -809,6 +810,7 @@ func thrownActOf(source *rand.Rand, p impl.Pair) impl.Act {
 }
 
 func TestPairsThrown(t *testing.T) {
+	t.Parallel()
 	source := rand.New(rand.NewSource(25))
 	right, wrong, done := 0, 0, map[int64]int{}
 	for range 20000 {

@@ -120,6 +120,7 @@ func (r *pairRow) thrownLetterAt(source *rand.Rand, m mood) int64 {
 
 // Promise 17, over long rows of all that can happen to a new pair: letters heard late, twice and never, and houses that fall anywhere.
 func TestOneOwner(t *testing.T) {
+	t.Parallel()
 	source := rand.New(rand.NewSource(26))
 	all := map[string]int{}
 	for blocks := int64(1); blocks <= 8; blocks++ {
@@ -206,6 +207,7 @@ func fullPairRow(blocks int64, room [2]int) *pairRow {
 
 // Promise 17, where the Logs run full at each place of a move there and back: who would note falls then, and at most one owns it.
 func TestOneOwnerWhereTheLogIsFull(t *testing.T) {
+	t.Parallel()
 	did := map[string]int{}
 	for first := range 5 {
 		for second := range 5 {
@@ -297,6 +299,7 @@ func (r *pairRow) doAll(t *testing.T, acts []impl.Act) {
 
 // Promise 17, with one mishap at each place of a move there and back, and with two of them near each other.
 func TestOneOwnerWithMishapsAtEachPlace(t *testing.T) {
+	t.Parallel()
 	row, all := movingActs(), mishaps()
 	did := map[string]int{}
 	for at := range row {
@@ -378,6 +381,7 @@ func isNear(p impl.Pair) bool {
 
 // Promise 17, in each place that a new pair of one block comes to by any row of acts, however long, as far as isNear goes.
 func TestOneOwnerInEachPlace(t *testing.T) {
+	t.Parallel()
 	p, _ := impl.NewPair(1)
 	seen := map[string]bool{placeOf(p): true}
 	states := map[[2]int64]int{}

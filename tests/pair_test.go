@@ -254,6 +254,8 @@ func wantNoPair(t *testing.T, what string, p impl.Pair) {
 		t.Errorf("%s: PairOk of\n%s\n= true", what, showPair(p))
 	}
 	wantOwners(t, p, -1)
+	wantOwned(t, what, p, impl.Store{})
+	wantAgreed(t, what, p, false)
 	for _, a := range eachKindOfAct() {
 		wantHappen(t, p, a, impl.Pair{}, noneAnswer, false)
 	}
