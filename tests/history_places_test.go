@@ -82,9 +82,10 @@ func (s *storePlaces) comes(p impl.Pair) {
 	}
 }
 
-// goesOn does all acts with each of these pairs.
+// goesOn comes to calm from each of these pairs, and does all acts with it.
 func (s *storePlaces) goesOn(t *testing.T, list []impl.Pair) {
 	for _, p := range list {
+		wantInCalmThere(t, p)
 		for _, a := range slices.Concat(actsOf(p), usingActs(p)) {
 			after, _, done := impl.Happen(p, a)
 			if !done || !isNearAsAStore(after) {
@@ -92,6 +93,8 @@ func (s *storePlaces) goesOn(t *testing.T, list []impl.Pair) {
 			}
 			if !impl.Agreed(after) {
 				t.Errorf("it is not Agreed after %+v: from\n%s\nto\n%s", a, showPair(p), showPair(after))
+			}
+			if t.Failed() {
 				return
 			}
 			s.comes(after)
@@ -99,8 +102,22 @@ func (s *storePlaces) goesOn(t *testing.T, list []impl.Pair) {
 	}
 }
 
-// Promise 18, in each place that a new pair of one block, of which one of two values is written and kept, comes to by any row of acts, however long, as far as isNearAsAStore goes.
-func TestAsIfThereWereOneHouseInEachPlace(t *testing.T) {
+// wantInCalmThere wants promise 19 of one place.
+func wantInCalmThere(t *testing.T, p impl.Pair) {
+	t.Helper()
+	calm, moved := impl.Calm(p), impl.Moved(p)
+	wrong := wantCalmOne(p, calm)
+	if wrong == "" {
+		wrong = wantMovedOne(calm, moved)
+	}
+	if wrong != "" {
+		t.Errorf("%s: of\n%s\nCalm is\n%s\nMoved\n%s", wrong, showPair(p), showPair(calm), showPair(moved))
+	}
+}
+
+// Promises 18 and 19, in each place that a new pair of one block, of which one of two values is written and kept, comes to by any row of acts, however long, as far as isNearAsAStore goes.
+func TestAsIfThereWereOneHouseAndInCalmInEachPlace(t *testing.T) {
+	t.Parallel()
 	s := storePlaces{seen: map[string]bool{}, states: map[[2]int64]int{}}
 	p, _ := impl.NewPair(1)
 	for s.comes(p); len(s.todo) > 0 && !t.Failed(); {

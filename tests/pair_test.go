@@ -256,6 +256,9 @@ func wantNoPair(t *testing.T, what string, p impl.Pair) {
 	wantOwners(t, p, -1)
 	wantOwned(t, what, p, impl.Store{})
 	wantAgreed(t, what, p, false)
+	wantCalm(t, what, p, impl.Pair{})
+	wantMoved(t, what, p, impl.Pair{})
+	wantOwnerOf(t, what, p, -1)
 	for _, a := range eachKindOfAct() {
 		wantHappen(t, p, a, impl.Pair{}, noneAnswer, false)
 	}
